@@ -1,5 +1,7 @@
 """Reading a text, handed in as its bytes, into the elements that it tells."""
 
+from circuitsdesk.refusals import WrongLine
+
 MOST_ELEMENTS = 16
 MOST_DIGITS = 6
 GREATEST_NODE = 8
@@ -14,13 +16,6 @@ DIGIT_9 = 57
 
 # A text comes as numbers, so each element's letter is known by its byte.
 KINDS = {82: "R", 67: "C", 76: "L", 86: "V", 73: "I", 69: "E", 71: "G"}
-
-
-class WrongLine(Exception):
-    """The line of this number, from 0 on, is the first wrong one."""
-
-    def __init__(self, line):
-        self.line = line
 
 
 class Element:
@@ -125,3 +120,11 @@ def read_circuit(text):
             raise WrongLine(number)
         circuit.append(element)
     return circuit
+
+
+def greatest_node(circuit):
+    """The greatest node that is named, 0 if none is."""
+    greatest = 0
+    for element in circuit:
+        greatest = max(greatest, max(element.nodes))
+    return greatest

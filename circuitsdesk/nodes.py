@@ -1,20 +1,26 @@
 """The calls: each takes whole numbers and bytes, and answers with a list of whole numbers."""
 
-from circuitsdesk.netlist import WrongLine, read_circuit
+from circuitsdesk.equations import solution_at_rest
+from circuitsdesk.netlist import greatest_node, read_circuit
+from circuitsdesk.polynomials import at_zero
+from circuitsdesk.refusals import BadCall, NotOneSolution, TooManyBytes, WrongLine
+from circuitsdesk.telling import fraction_text, told
 
 MOST_BYTES = 65536
 
-# A wrong line's number is taken from this one.
-FIRST_LINE_WRONG = -100
-BAD_CALL = -2
+
+def circuit_of(text):
+    """The elements that a text tells; or a refusal is raised."""
+    if len(text) > MOST_BYTES:
+        raise BadCall()
+    return read_circuit(text)
 
 
-def greatest_node(circuit):
-    """The greatest node that is named, 0 if none is."""
-    greatest = 0
-    for element in circuit:
-        greatest = max(greatest, max(element.nodes))
-    return greatest
+def circuit_to_tell(most, text):
+    """The same where bytes are to be told, most of them at the most."""
+    if most < 0:
+        raise BadCall()
+    return circuit_of(text)
 
 
 def storing_count(circuit):
@@ -22,12 +28,29 @@ def storing_count(circuit):
     return len([element for element in circuit if element.kind in ("C", "L")])
 
 
+def volts_text(circuit):
+    """A line for each node from 1 on: its number and its voltage at rest."""
+    solution = solution_at_rest(circuit)
+    lines = []
+    for node in range(1, greatest_node(circuit) + 1):
+        voltage = fraction_text(at_zero(solution.voltage(node)), at_zero(solution.bottom))
+        lines.append(f"{node} {voltage}\n")
+    return "".join(lines)
+
+
 def el_check(text):
     """0, the greatest node, how many elements, how many of them are C or L; or a refusal."""
-    if len(text) > MOST_BYTES:
-        return [BAD_CALL]
     try:
-        circuit = read_circuit(text)
-    except WrongLine as e:
-        return [FIRST_LINE_WRONG - e.line]
+        circuit = circuit_of(text)
+    except (BadCall, WrongLine) as e:
+        return [e.answer]
     return [0, greatest_node(circuit), len(circuit), storing_count(circuit)]
+
+
+def el_volts(most, text):
+    """How many bytes, then these: the voltages at rest, a line for each node from 1 on; or a refusal."""
+    try:
+        circuit = circuit_to_tell(most, text)
+        return told(most, volts_text(circuit))
+    except (BadCall, WrongLine, NotOneSolution, TooManyBytes) as e:
+        return [e.answer]

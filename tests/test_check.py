@@ -1,51 +1,23 @@
 """el_check: point 1 of the document, and the refusals ahead of it."""
 
-import re
 import unittest
 
+import second
+from alike import Alike
 from circuitsdesk.nodes import el_check
-
-MOST_BYTES = 65536
+from second import MOST_BYTES, as_bytes
 
 
 def check(text):
-    """The answer to a text, written as str (Latin-1) or bytes."""
-    if isinstance(text, str):
-        text = text.encode("latin-1")
-    return el_check(list(text))
+    return el_check(list(as_bytes(text)))
+
+
+def expected(text):
+    return second.answer(second.check, text)
 
 
 def wrong(line):
     return [-100 - line]
-
-
-NODE = rb"[0-8]"
-DIGITS = rb"[0-9]{1,6}"
-LOWER = rb"(?:/(?=[0-9]*[1-9])[0-9]{1,6})?"
-GAP = rb"\x20+"
-FORMS = (
-    (rb"[RCL]", 2, rb"(?=0*[1-9])" + DIGITS + LOWER),
-    (rb"[VI]", 2, rb"-?" + DIGITS + LOWER),
-    (rb"[EG]", 4, rb"-?" + DIGITS + LOWER),
-)
-ELEMENT = re.compile(b"|".join(
-    rb"\x20*" + letter + (GAP + NODE) * count + GAP + value + rb"\x20*" for letter, count, value in FORMS))
-
-
-def expected(text):
-    """What the document asks for, told by patterns over whole lines instead of word by word."""
-    if len(text) > MOST_BYTES:
-        return [-2]
-    told = []
-    for number, line in enumerate(text.split(b"\n")):
-        if line.startswith(b"*") or not line.strip(b" "):
-            continue
-        if ELEMENT.fullmatch(line) is None or len(told) == 16:
-            return [-100 - number]
-        told.append(line.split(b" "))
-    words = [[word for word in line if word] for line in told]
-    nodes = [int(word) for line in words for word in line[1:-1]]
-    return [0, max(nodes, default=0), len(words), len([line for line in words if line[0] in (b"C", b"L")])]
 
 
 class Ordinary(unittest.TestCase):
@@ -80,12 +52,6 @@ class Ordinary(unittest.TestCase):
     def test_a_node_may_be_named_twice_and_nodes_may_be_left_out(self):
         self.assertEqual(check("R 3 3 1\n"), [0, 3, 1, 0])
         self.assertEqual(check("E 0 0 0 0 0\n"), [0, 0, 1, 0])
-
-    def test_answer_is_a_list_of_plain_whole_numbers(self):
-        for text in ("", "C 1 0 1", "R", "\n" * (MOST_BYTES + 1)):
-            answer = check(text)
-            self.assertIs(type(answer), list)
-            self.assertEqual([type(number) for number in answer], [int] * len(answer))
 
 
 class Lines(unittest.TestCase):
@@ -281,40 +247,9 @@ class AgainstPatterns(unittest.TestCase):
                 self.agree(text)
 
 
-class Unchanged(list):
-    """A list that bears no change, not for a while either."""
-
-    def refuse(self, *args, **kwargs):
-        raise AssertionError("the text was changed")
-
-    append = extend = insert = pop = remove = clear = sort = reverse = refuse
-    __setitem__ = __delitem__ = __iadd__ = __imul__ = refuse
-
-
-class EachCallByItself(unittest.TestCase):
-    texts = (b"", b"R 1 0 5\nC 8 0 5\n", b"  L 3 0 1/2  ", b"\nx\n", b"C 1 0 5\n" * 17, b"*\n" * 40000)
-
-    def test_text_is_as_it_was(self):
-        for text in self.texts:
-            handed = list(text)
-            el_check(handed)
-            self.assertEqual(handed, list(text))
-            el_check(Unchanged(text))
-
-    def test_second_call_answers_as_the_first(self):
-        for text in self.texts:
-            handed = list(text)
-            first = el_check(handed)
-            kept = list(first)
-            first.append(99)
-            self.assertEqual(el_check(handed), kept)
-
-    def test_no_call_bears_on_another(self):
-        alone = [expected(text) for text in self.texts]
-        for before in self.texts:
-            for text, answer in zip(self.texts, alone):
-                el_check(list(before))
-                self.assertEqual(el_check(list(text)), answer)
+class Calls(Alike, unittest.TestCase):
+    def ask(self, text):
+        return el_check(text)
 
 
 if __name__ == "__main__":

@@ -5,7 +5,7 @@ The unknown ones are the voltages of the nodes from 1 on, then the currents of t
 
 from circuitsdesk.determinants import determinant
 from circuitsdesk.netlist import greatest_node
-from circuitsdesk.polynomials import constant, plus, scaled, times
+from circuitsdesk.polynomials import constant, minus, plus, scaled, times
 from circuitsdesk.refusals import NotOneSolution
 
 
@@ -99,6 +99,14 @@ class Solution:
         if node == 0:
             return []
         return self.unknown(node - 1)
+
+    def voltage_between(self, first, second):
+        """The voltage of the first node less that of the second, over the bottom."""
+        return minus(self.voltage(first), self.voltage(second))
+
+    def current(self, number):
+        """The current of the element of this number, over the bottom."""
+        return self.unknown(self.greatest + number)
 
 
 def solution_at_rest(circuit):

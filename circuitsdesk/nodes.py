@@ -38,6 +38,18 @@ def volts_text(circuit):
     return "".join(lines)
 
 
+def power_text(circuit, number):
+    """U J at rest of the element of this number."""
+    if number < 0 or number >= len(circuit):
+        raise BadCall()
+    nodes = circuit[number].nodes
+    solution = solution_at_rest(circuit)
+    voltage = at_zero(solution.voltage_between(nodes[0], nodes[1]))
+    current = at_zero(solution.current(number))
+    bottom = at_zero(solution.bottom)
+    return fraction_text(voltage * current, bottom * bottom)
+
+
 def el_check(text):
     """0, the greatest node, how many elements, how many of them are C or L; or a refusal."""
     try:
@@ -52,5 +64,14 @@ def el_volts(most, text):
     try:
         circuit = circuit_to_tell(most, text)
         return told(most, volts_text(circuit))
+    except (BadCall, WrongLine, NotOneSolution, TooManyBytes) as e:
+        return [e.answer]
+
+
+def el_power(element, most, text):
+    """How many bytes, then these: U J at rest of the element of this number; or a refusal."""
+    try:
+        circuit = circuit_to_tell(most, text)
+        return told(most, power_text(circuit, element))
     except (BadCall, WrongLine, NotOneSolution, TooManyBytes) as e:
         return [e.answer]

@@ -2,6 +2,16 @@
 
 from second import MOST_BYTES, Unchanged, as_bytes
 
+
+def bytes_told(answer):
+    """What a call that tells bytes has told, as a text; or the refusal."""
+    if len(answer) == 1 and answer[0] < 0:
+        return answer[0]
+    if answer[0] != len(answer) - 1:
+        raise AssertionError(f"{answer[0]} bytes are said, {len(answer) - 1} are told")
+    return bytes(answer[1:]).decode("ascii")
+
+
 GOOD = "V 1 0 6\nR 1 2 2\nR 2 0 1\n"
 
 # Each wrong text, with the number of its first wrong line.
@@ -19,6 +29,18 @@ WRONG = (
     ("\n" * 65535 + "x", 65535), ("1" * MOST_BYTES, 0),
     # A node alone with a source of current: no solution, but that is found behind a wrong line.
     ("I 1 0 5\nx", 1), ("x\nR 2 0 5", 0),
+)
+
+# Texts whose equations at rest have no solution, and such as have more than one.
+NO_SOLUTION = (
+    "V 1 0 3\nV 1 0 4", "I 1 0 5", "V 1 0 3\nL 1 0 1", "V 1 0 5\nR 1 0 1\nI 0 2 5\nC 2 0 1",
+    "V 1 2 1\nV 2 3 1\nV 3 1 1\nR 1 0 1", "I 0 1 1\nI 1 0 2", "V 1 0 1\nE 1 0 0 0 5",
+    "I 0 1 1\nG 0 1 1 0 1\nR 1 0 1", "V 0 0 5",
+)
+MORE_THAN_ONE = (
+    "V 1 0 3\nV 1 0 3", "I 1 0 0", "C 1 0 5", "L 1 0 1\nL 1 0 2", "V 1 0 0\nL 1 0 1", "E 1 0 1 0 1", "G 1 0 1 0 0",
+    "R 1 2 5", "V 1 2 5", "R 1 0 1\nC 1 2 1", "R 1 0 1\nC 1 2 1\nC 2 0 1", "V 1 2 1\nV 2 3 1\nV 3 1 -2\nR 1 0 1",
+    "I 0 1 1\nI 1 0 1", "G 0 1 1 0 1\nR 1 0 1", "R 2 0 1", "R 1 1 1", "R 1 0 1\nG 1 0 2 0 1", "V 0 0 0", "L 0 0 5",
 )
 
 

@@ -151,6 +151,16 @@ def volts(most, text):
     return told(most, "".join(f"{node} {voltages[node]}\n" for node in range(1, len(voltages))))
 
 
+def power(element, most, text):
+    if most < 0:
+        raise Refused(-2)
+    circuit = read(text)
+    if not 0 <= element < len(circuit):
+        raise Refused(-2)
+    nodes, voltages, currents = at_rest(circuit)
+    return told(most, str(voltages[element] * currents[element]))
+
+
 def written(circuit):
     """The text of a circuit."""
     return "".join(f"{letter} {' '.join(map(str, nodes))} {value}\n" for letter, nodes, value in circuit)

@@ -3,18 +3,16 @@
 import unittest
 
 import second
-from alike import Alike
+from alike import MORE_THAN_ONE, NO_SOLUTION, Alike, bytes_told
 from circuitsdesk.nodes import el_volts
 from second import MOST_BYTES, as_bytes
 
 
 def volts(text, most=MOST_BYTES):
     """The lines told, without their ends; or the refusal."""
-    answer = el_volts(most, list(as_bytes(text)))
-    if len(answer) == 1 and answer[0] < 0:
-        return answer[0]
-    assert answer[0] == len(answer) - 1
-    words = bytes(answer[1:]).decode("ascii")
+    words = bytes_told(el_volts(most, list(as_bytes(text))))
+    if isinstance(words, int):
+        return words
     assert words == "" or words.endswith("\n")
     return words.split("\n")[:-1]
 
@@ -157,19 +155,12 @@ class Edges(unittest.TestCase):
 
 
 class Refusals(unittest.TestCase):
-    no_solution = ("V 1 0 3\nV 1 0 4", "I 1 0 5", "V 1 0 3\nL 1 0 1", "V 1 0 5\nR 1 0 1\nI 0 2 5\nC 2 0 1",
-                   "V 1 2 1\nV 2 3 1\nV 3 1 1\nR 1 0 1", "I 0 1 1\nI 1 0 2", "V 1 0 1\nE 1 0 0 0 5",
-                   "I 0 1 1\nG 0 1 1 0 1\nR 1 0 1")
-    more_than_one = ("V 1 0 3\nV 1 0 3", "I 1 0 0", "C 1 0 5", "L 1 0 1\nL 1 0 2", "V 1 0 0\nL 1 0 1", "E 1 0 1 0 1",
-                     "G 1 0 1 0 0", "R 1 2 5", "V 1 2 5", "R 1 0 1\nC 1 2 1", "R 1 0 1\nC 1 2 1\nC 2 0 1",
-                     "V 1 2 1\nV 2 3 1\nV 3 1 -2\nR 1 0 1", "I 0 1 1\nI 1 0 1", "G 0 1 1 0 1\nR 1 0 1")
-
     def test_not_just_one_solution(self):
-        for text in self.no_solution + self.more_than_one:
+        for text in NO_SOLUTION + MORE_THAN_ONE:
             self.assertEqual(volts(text), -5, text)
 
     def test_refusals_in_their_order(self):
-        for text in self.no_solution + self.more_than_one:
+        for text in NO_SOLUTION + MORE_THAN_ONE:
             self.assertEqual(volts(text, 0), -5, text)
             self.assertEqual(volts(text + "\nx", 0), -100 - len(text.split("\n")), text)
             self.assertEqual(volts(text, -1), -2, text)

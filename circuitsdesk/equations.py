@@ -4,7 +4,7 @@ The unknown ones are the voltages of the nodes from 1 on, then the currents of t
 """
 
 from circuitsdesk.determinants import determinant
-from circuitsdesk.netlist import greatest_node
+from circuitsdesk.netlist import Element, greatest_node
 from circuitsdesk.polynomials import constant, minus, plus, scaled, times
 from circuitsdesk.refusals import NotOneSolution
 
@@ -112,3 +112,19 @@ class Solution:
 def solution_at_rest(circuit):
     """The one solution with 0 for s from the beginning."""
     return Solution(circuit, [])
+
+
+def signal_alone(circuit, source):
+    """The circuit with the value 1 for the source of this number, 0 for all other sources."""
+    changed = []
+    for number, element in enumerate(circuit):
+        if element.kind in ("V", "I"):
+            changed.append(Element(element.kind, element.nodes, 1 if number == source else 0, 1))
+        else:
+            changed.append(element)
+    return changed
+
+
+def solution_by_signal(circuit, source):
+    """The one solution in quotients of polynomials in s, with that source's value 1 and all others' 0."""
+    return Solution(signal_alone(circuit, source), [0, 1])

@@ -1,10 +1,11 @@
 """The calls: each takes whole numbers and bytes, and answers with a list of whole numbers."""
 
-from circuitsdesk.equations import solution_at_rest
+from circuitsdesk.equations import solution_at_rest, solution_by_signal
 from circuitsdesk.netlist import greatest_node, read_circuit
 from circuitsdesk.polynomials import at_zero
+from circuitsdesk.quotients import lowest_terms
 from circuitsdesk.refusals import BadCall, NotOneSolution, TooManyBytes, WrongLine
-from circuitsdesk.telling import fraction_text, told
+from circuitsdesk.telling import fraction_text, polynomial_text, told
 
 MOST_BYTES = 65536
 
@@ -50,6 +51,17 @@ def power_text(circuit, number):
     return fraction_text(voltage * current, bottom * bottom)
 
 
+def signal_text(circuit, source, a, b):
+    """The voltage of a less that of b as a quotient of polynomials in s, by the source of this number alone."""
+    if source < 0 or source >= len(circuit) or circuit[source].kind not in ("V", "I"):
+        raise BadCall()
+    if min(a, b) < 0 or max(a, b) > greatest_node(circuit):
+        raise BadCall()
+    solution = solution_by_signal(circuit, source)
+    parts = lowest_terms(solution.voltage_between(a, b), solution.bottom)
+    return polynomial_text(parts[0]) + " / " + polynomial_text(parts[1])
+
+
 def el_check(text):
     """0, the greatest node, how many elements, how many of them are C or L; or a refusal."""
     try:
@@ -73,5 +85,14 @@ def el_power(element, most, text):
     try:
         circuit = circuit_to_tell(most, text)
         return told(most, power_text(circuit, element))
+    except (BadCall, WrongLine, NotOneSolution, TooManyBytes) as e:
+        return [e.answer]
+
+
+def el_signal(source, a, b, most, text):
+    """How many bytes, then these: what the source of this number makes of the voltage from a to b; or a refusal."""
+    try:
+        circuit = circuit_to_tell(most, text)
+        return told(most, signal_text(circuit, source, a, b))
     except (BadCall, WrongLine, NotOneSolution, TooManyBytes) as e:
         return [e.answer]

@@ -1,4 +1,4 @@
-"""Writing what is told, and its bytes."""
+"""Writing what is told: fractions and polynomials as texts, and a text as its bytes."""
 
 from circuitsdesk.polynomials import common_divisor
 from circuitsdesk.refusals import TooManyBytes
@@ -12,6 +12,13 @@ def fraction_text(top, bottom):
     upper = str(top // divisor)
     lower = str(bottom // divisor)
     return upper if lower == "1" else upper + "/" + lower
+
+
+def polynomial_text(polynomial):
+    """The coefficients from the lowest power up, blanks between; 0 alone where there are none."""
+    if len(polynomial) == 0:
+        return "0"
+    return " ".join([str(number) for number in polynomial])
 
 
 def told(most, words):

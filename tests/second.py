@@ -1,9 +1,11 @@
 """A second way to each answer, by other means than the program's, for tests to compare with.
 
 A text is read by patterns over whole lines. The equations are kept as the document writes them, with U an unknown
-one too and the voltage of node 0 among the rest, and are solved in fractions.
+one too and the voltage of node 0 among the rest, and are solved in fractions. Polynomials in s are found from their
+values at so many numbers put in for s that there is one alone that has them.
 """
 
+import math
 import random
 import re
 from fractions import Fraction
@@ -159,6 +161,79 @@ def power(element, most, text):
         raise Refused(-2)
     nodes, voltages, currents = at_rest(circuit)
     return told(most, str(voltages[element] * currents[element]))
+
+
+def trimmed(polynomial):
+    while polynomial and not polynomial[-1]:
+        polynomial = polynomial[:-1]
+    return polynomial
+
+
+def through(points):
+    """The polynomial of the lowest degree with these values: a list of pairs of s and value."""
+    total = [Fraction(0)] * len(points)
+    for s, value in points:
+        part = [value]
+        for other, ignored in points:
+            if other != s:
+                # times (letter - other) / (s - other)
+                part = [(before - other * here) / (s - other) for before, here in zip([0] + part, part + [0])]
+        total = [one + another for one, another in zip(total, part)]
+    return trimmed(total)
+
+
+def samples(circuit):
+    """s, the determinant and the solution, at one number more than the degree that the determinant may have."""
+    degree = len([letter for letter, nodes, value in circuit if letter in "CL"])
+    found = []
+    for s in range(2 * degree + 1):
+        determinant, solution = solve(circuit, s)
+        if determinant:
+            found.append((s, determinant, solution))
+    # A determinant that isn't 0 itself is 0 at no more numbers than its degree.
+    if len(found) <= degree:
+        raise Refused(-5)
+    return found[:degree + 1]
+
+
+def divided(upper, lower):
+    """Quotient and remainder of polynomials."""
+    quotient = []
+    while len(upper) >= len(lower):
+        factor = upper[-1] / lower[-1]
+        quotient.insert(0, factor)
+        taken = [Fraction(0)] * (len(upper) - len(lower)) + [factor * entry for entry in lower]
+        upper = [entry - other for entry, other in zip(upper, taken)][:-1]
+    return quotient, trimmed(upper)
+
+
+def lowest(upper, lower):
+    """Upper and lower polynomial of a quotient as the document asks for them."""
+    first, rest = lower, upper
+    while rest:
+        first, rest = rest, divided(first, rest)[1]
+    upper, lower = divided(upper, first)[0], divided(lower, first)[0]
+    whole = math.lcm(*(entry.denominator for entry in upper + lower))
+    shared = math.gcd(*(int(entry * whole) for entry in upper + lower))
+    factor = Fraction(whole, shared) * (-1 if lower[-1] < 0 else 1)
+    return [entry * factor for entry in upper], [entry * factor for entry in lower]
+
+
+def signal(source, a, b, most, text):
+    if most < 0:
+        raise Refused(-2)
+    circuit = read(text)
+    if not 0 <= source < len(circuit) or circuit[source][0] not in "VI":
+        raise Refused(-2)
+    if not (0 <= a <= greatest(circuit) and 0 <= b <= greatest(circuit)):
+        raise Refused(-2)
+    changed = [(letter, nodes, Fraction(number == source) if letter in "VI" else value)
+               for number, (letter, nodes, value) in enumerate(circuit)]
+    found = samples(changed)
+    upper, lower = lowest(
+        through([(s, determinant * (solution[a] - solution[b])) for s, determinant, solution in found]),
+        through([(s, determinant) for s, determinant, solution in found]))
+    return told(most, (" ".join(map(str, upper)) or "0") + " / " + " ".join(map(str, lower)))
 
 
 def written(circuit):

@@ -77,7 +77,10 @@ def right_sides(circuit, s):
 
 
 class Solution:
-    """The one solution, with a polynomial for the letter s: each unknown one is what is told here over the bottom."""
+    """The one solution, with a polynomial for the letter s: each unknown one is what is told here over the bottom.
+
+    The bottom is the determinant of the equations, times a whole number above 0.
+    """
 
     def __init__(self, circuit, s):
         self.greatest = greatest_node(circuit)
@@ -114,6 +117,11 @@ def solution_at_rest(circuit):
     return Solution(circuit, [])
 
 
+def solution_in_s(circuit):
+    """The one solution in quotients of polynomials in s."""
+    return Solution(circuit, [0, 1])
+
+
 def signal_alone(circuit, source):
     """The circuit with the value 1 for the source of this number, 0 for all other sources."""
     changed = []
@@ -126,5 +134,5 @@ def signal_alone(circuit, source):
 
 
 def solution_by_signal(circuit, source):
-    """The one solution in quotients of polynomials in s, with that source's value 1 and all others' 0."""
-    return Solution(signal_alone(circuit, source), [0, 1])
+    """The one solution in s with the value 1 for the source of this number, 0 for all other sources."""
+    return solution_in_s(signal_alone(circuit, source))

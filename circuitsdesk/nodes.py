@@ -1,10 +1,11 @@
 """The calls: each takes whole numbers and bytes, and answers with a list of whole numbers."""
 
-from circuitsdesk.equations import solution_at_rest, solution_by_signal
+from circuitsdesk.equations import solution_at_rest, solution_by_signal, solution_in_s
 from circuitsdesk.netlist import greatest_node, read_circuit
 from circuitsdesk.polynomials import at_zero
 from circuitsdesk.quotients import lowest_terms
 from circuitsdesk.refusals import BadCall, NotOneSolution, TooManyBytes, WrongLine
+from circuitsdesk.settling import lies_left
 from circuitsdesk.telling import fraction_text, polynomial_text, told
 
 MOST_BYTES = 65536
@@ -95,4 +96,13 @@ def el_signal(source, a, b, most, text):
         circuit = circuit_to_tell(most, text)
         return told(most, signal_text(circuit, source, a, b))
     except (BadCall, WrongLine, NotOneSolution, TooManyBytes) as e:
+        return [e.answer]
+
+
+def el_settles(text):
+    """1 if all that the determinant of the equations is 0 for lies left of 0, else 0; or a refusal."""
+    try:
+        circuit = circuit_of(text)
+        return [1 if lies_left(solution_in_s(circuit).bottom) else 0]
+    except (BadCall, WrongLine, NotOneSolution) as e:
         return [e.answer]

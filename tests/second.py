@@ -236,6 +236,25 @@ def signal(source, a, b, most, text):
     return told(most, (" ".join(map(str, upper)) or "0") + " / " + " ".join(map(str, lower)))
 
 
+def determinant_in_s(circuit):
+    """The determinant as a polynomial, its highest coefficient above 0."""
+    polynomial = through([(s, determinant) for s, determinant, solution in samples(circuit)])
+    return [-entry for entry in polynomial] if polynomial[-1] < 0 else polynomial
+
+
+def settles(text):
+    """By Routh's scheme: each row from the two before it, as long as its first entry is above 0."""
+    polynomial = determinant_in_s(read(text))
+    high, low = polynomial[::-2], polynomial[-2::-2]
+    while low:
+        if low[0] <= 0:
+            return [0]
+        factor = high[0] / low[0]
+        low_filled = low[1:] + [Fraction(0)] * (len(high) - len(low))
+        high, low = low, [entry - factor * other for entry, other in zip(high[1:], low_filled)]
+    return [1]
+
+
 def written(circuit):
     """The text of a circuit."""
     return "".join(f"{letter} {' '.join(map(str, nodes))} {value}\n" for letter, nodes, value in circuit)

@@ -151,5 +151,111 @@ class Form(unittest.TestCase):
             self.assertNotIn(node.attr, UNUSED, (file, node.lineno))
 
 
+def trees():
+    """Each file's name without its ending, and its tree."""
+    return {file.stem: ast.parse(file.read_text("ascii")) for file in FILES}
+
+
+def drawn_from(tree):
+    """The files of the package that a file draws from."""
+    return [node.module.split(".")[1] for node in tree.body if isinstance(node, ast.ImportFrom)]
+
+
+def called_name(node):
+    """The name that is called, if a plain name is."""
+    return node.func.id if isinstance(node, ast.Call) and isinstance(node.func, ast.Name) else None
+
+
+class Narrower(unittest.TestCase):
+    """Some of the rules from L12 on."""
+
+    def test_imports_come_from_the_file_that_defines_the_name(self):
+        files = trees()
+        for name, tree in files.items():
+            for node in tree.body:
+                if isinstance(node, ast.ImportFrom):
+                    source = files[node.module.split(".")[1]]
+                    defined = [part.name for part in source.body if isinstance(part, (ast.FunctionDef, ast.ClassDef))]
+                    for imported in node.names:
+                        self.assertIn(imported.name, defined, name)
+                        self.assertIsNone(imported.asname, name)
+
+    def test_no_two_files_draw_from_one_another(self):
+        left = {name: drawn_from(tree) for name, tree in trees().items()}
+        while left:
+            ready = [name for name, sources in left.items() if not set(sources) & set(left)]
+            self.assertTrue(ready, left)
+            left = {name: sources for name, sources in left.items() if name not in ready}
+
+    def test_no_local_is_called_like_a_class_or_an_import(self):
+        for name, tree in trees().items():
+            taken = {node.name for node in tree.body if isinstance(node, ast.ClassDef)}
+            taken |= {part.name for node in tree.body if isinstance(node, ast.ImportFrom) for part in node.names}
+            for node in tree.body:
+                if isinstance(node, (ast.FunctionDef, ast.ClassDef)):
+                    inner = list(bound_names(ast.Module(node.body, [])))
+                    inner += [part.arg for part in ast.walk(node) if isinstance(part, ast.arg)]
+                    self.assertFalse(taken & set(inner), (name, node.name))
+
+    def test_own_methods_and_values(self):
+        pythons = set().union(*map(dir, (str, int, list, dict, set, bytes, tuple)))
+        methods, values = set(), set()
+        for file, node in nodes_of(ast.ClassDef):
+            methods |= {part.name for part in node.body if isinstance(part, ast.FunctionDef)}
+        for file, node in nodes_of(ast.Attribute):
+            if isinstance(node.ctx, ast.Store):
+                values.add(node.attr)
+        self.assertFalse(methods & values)
+        self.assertFalse((methods - UNDERSCORED | values) & pythons)
+
+    def test_keywords(self):
+        allowed = {"sorted": {"key", "reverse"}, "min": {"key", "default"}, "max": {"key", "default"},
+                   "sum": {"start"}, "enumerate": {"start"}, "zip": {"strict"}}
+        for file, node in nodes_of(ast.Call):
+            if node.keywords and (called_name(node) in OWN_NAMES or isinstance(node.func, ast.Attribute)):
+                self.assertLessEqual({part.arg for part in node.keywords}, allowed.get(called_name(node), set()), file)
+
+    def test_walked_at_once(self):
+        walks = ("zip", "enumerate", "reversed", "range")
+        takers = ("list", "tuple", "dict", "sorted", "sum", "any", "all", "enumerate", "zip", "min", "max")
+        walked = set()
+        for file in FILES:
+            tree = ast.parse(file.read_text("ascii"))
+            for node in ast.walk(tree):
+                if isinstance(node, (ast.For, ast.comprehension)):
+                    walked.add(node.iter)
+                elif called_name(node) in takers:
+                    walked.update(node.args[:1])
+            for node in ast.walk(tree):
+                if called_name(node) in walks:
+                    self.assertIn(node, walked, (file, node.lineno))
+
+    def test_numbers_and_texts(self):
+        for file, node in nodes_of(ast.Constant):
+            if isinstance(node.value, str):
+                self.assertNotIn("%", node.value, (file, node.lineno))
+        for file, node in nodes_of(ast.BinOp):
+            if isinstance(node.op, ast.Pow):
+                self.assertIsInstance(node.right, ast.Constant, (file, node.lineno))
+
+    def test_nothing_is_kept_at_a_files_top(self):
+        for name, tree in trees().items():
+            kept = [node.targets[0].id for node in tree.body
+                    if isinstance(node, ast.Assign) and isinstance(node.value, (ast.List, ast.Dict))]
+            for node in ast.walk(tree):
+                if isinstance(node, (ast.Subscript, ast.Attribute)) and isinstance(node.ctx, ast.Store):
+                    self.assertNotIn(ast.unparse(node.value), kept, name)
+                if isinstance(node, ast.Call) and isinstance(node.func, ast.Attribute):
+                    if ast.unparse(node.func.value) in kept:
+                        self.assertIn(node.func.attr, ("get", "items", "keys", "values", "index", "count"), name)
+
+    def test_errors(self):
+        for file, node in nodes_of(ast.Raise):
+            self.assertIsInstance(node.exc, ast.Call, (file, node.lineno))
+        for file, node in nodes_of(ast.ClassDef):
+            for base in node.bases:
+                self.assertIn(ast.unparse(base), ("Exception", "ValueError"), (file, node.name))
+
+
 if __name__ == "__main__":
     unittest.main()
